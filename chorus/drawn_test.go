@@ -9,11 +9,24 @@ import (
 	"chorus/chorus"
 )
 
+// drawFrame is the number of a frame in flight; those about the change of a view are drawn more often, and older ones too.
+func drawFrame(t *testing.T, r *rand.Rand, g *chorus.Group) int {
+	t.Helper()
+	if r.Intn(2) == 0 {
+		for k := range g.Flight() {
+			if bytesOf(t, g, k)[0] >= api.FFlush && r.Intn(2) == 0 {
+				return k
+			}
+		}
+	}
+	return r.Intn(1 + r.Intn(g.Flight()))
+}
+
 // befall lets something drawn happen to a frame in flight; a spoilt one arrives at once.
 func befall(t *testing.T, r *rand.Rand, g *chorus.Group) {
 	t.Helper()
-	k := r.Intn(g.Flight())
-	switch r.Intn(8) {
+	k := drawFrame(t, r, g)
+	switch r.Intn(16) {
 	case 0:
 		wantErr(t, "P7: Drop", g.Drop(k), api.OK)
 	case 1:

@@ -1,7 +1,6 @@
 package chorus_test
 
 import (
-	"math/rand"
 	"slices"
 	"sort"
 	"testing"
@@ -11,11 +10,11 @@ import (
 	"chorus/wire"
 )
 
-// model is a second reading of P7 to P11, written for plainness: everything is a list that is searched from its head. It knows one view.
+// model is a second reading of P7 to P14, written for plainness: sets are lists, and every list is searched from its head.
 type model struct {
 	n, window, limit int
 	frames           []modelFrame
-	procs            []modelProc
+	procs            []*modelProc
 }
 
 type modelFrame struct {
@@ -24,22 +23,75 @@ type modelFrame struct {
 }
 
 type modelProc struct {
-	up       bool
-	promised int
-	rows     [][]int
-	held     []api.Msg
-	events   []api.Event
+	up, out, blocked  bool
+	view, promised    int
+	members, suspects []int
+	rows              [][]int
+	held              []api.Msg
+	events            []api.Event
+	vote              modelVote
+	// What it leads: 0 is no ballot.
+	ballot              int
+	gathers             bool
+	leftOut, asked, yes []int
+	answers             []modelAnswer
+	// Of each view that it has left the frame that tells so.
+	past []api.Frame
+}
+
+type modelVote struct {
+	ballot, members int
+	cut             []int
+}
+
+type modelAnswer struct {
+	from int
+	row  []int
+	vote modelVote
 }
 
 func newModel(n, window, limit int) *model {
-	m := &model{n: n, window: window, limit: limit, procs: make([]modelProc, n)}
-	for p := range m.procs {
-		m.procs[p].up = true
-		for range n {
-			m.procs[p].rows = append(m.procs[p].rows, make([]int, n))
+	m := &model{n: n, window: window, limit: limit}
+	for range n {
+		x := &modelProc{up: true}
+		for q := range n {
+			x.members = append(x.members, q)
+			x.rows = append(x.rows, make([]int, n))
 		}
+		m.procs = append(m.procs, x)
 	}
 	return m
+}
+
+// number is a list of processes as a frame tells it.
+func number(l []int) int {
+	sum := 0
+	for _, q := range l {
+		sum += 1 << q
+	}
+	return sum
+}
+
+// listed are the processes of such a number.
+func listed(set int) []int {
+	var l []int
+	for q := range 6 {
+		if set/(1<<q)%2 == 1 {
+			l = append(l, q)
+		}
+	}
+	return l
+}
+
+// without is what one list has and the other one has not.
+func without(l, o []int) []int {
+	var rest []int
+	for _, q := range l {
+		if !slices.Contains(o, q) {
+			rest = append(rest, q)
+		}
+	}
+	return rest
 }
 
 func (m *model) send(f api.Frame) {
@@ -49,9 +101,9 @@ func (m *model) send(f api.Frame) {
 	}
 }
 
-func (m *model) stable(p int, x api.Msg) bool {
-	for _, row := range m.procs[p].rows {
-		if row[x.Sender] < x.Seq {
+func (m *model) stable(p int, h api.Msg) bool {
+	for _, q := range m.procs[p].members {
+		if m.procs[p].rows[q][h.Sender] < h.Seq {
 			return false
 		}
 	}
@@ -59,17 +111,29 @@ func (m *model) stable(p int, x api.Msg) bool {
 }
 
 func (m *model) clean(p int) {
-	var keep []api.Msg
-	for _, x := range m.procs[p].held {
-		if !m.stable(p, x) {
-			keep = append(keep, x)
+	m.procs[p].held = slices.DeleteFunc(m.procs[p].held, func(h api.Msg) bool { return m.stable(p, h) })
+}
+
+// told is what p holds up to a cut (nil: all of it), in order.
+func (m *model) told(p int, cut []int) []api.Msg {
+	var l []api.Msg
+	for _, h := range m.procs[p].held {
+		if cut == nil || h.Seq <= cut[h.Sender] {
+			l = append(l, h)
 		}
 	}
-	m.procs[p].held = keep
+	sort.Slice(l, func(i, j int) bool { return l[i].Sender*100+l[i].Seq < l[j].Sender*100+l[j].Seq })
+	return l
+}
+
+func (m *model) data(p, q int, h api.Msg) api.Frame {
+	f := data(p, q, m.procs[p].rows[p], h)
+	f.View = m.procs[p].view
+	return f
 }
 
 func (m *model) cast(p int, text string) api.Errno {
-	x := &m.procs[p]
+	x := m.procs[p]
 	own := 0
 	for _, h := range x.held {
 		if h.Sender == p {
@@ -79,8 +143,14 @@ func (m *model) cast(p int, text string) api.Errno {
 	if !x.up {
 		return api.ErrDown
 	}
+	if x.out {
+		return api.ErrOut
+	}
 	if len(text) > 16 {
 		return api.ErrLarge
+	}
+	if x.blocked {
+		return api.ErrBlocked
 	}
 	if x.rows[p][p] == 20 {
 		return api.ErrExhausted
@@ -92,87 +162,283 @@ func (m *model) cast(p int, text string) api.Errno {
 	c := api.Msg{Sender: p, Seq: x.rows[p][p], Time: append([]int{}, x.rows[p]...), Text: text}
 	x.held = slices.DeleteFunc(x.held, func(h api.Msg) bool { return h.Sender == p && h.Seq == c.Seq })
 	x.held = append(x.held, c)
-	x.events = append(x.events, api.Event{Kind: api.ECast, From: p, Seq: c.Seq, Text: text})
+	x.events = append(x.events, api.Event{Kind: api.ECast, View: x.view, From: p, Seq: c.Seq, Text: text})
 	m.clean(p)
-	for q := range m.n {
-		if q != p {
-			m.send(data(p, q, x.rows[p], c))
-		}
+	for _, q := range without(x.members, []int{p}) {
+		m.send(m.data(p, q, c))
 	}
 	return api.OK
 }
 
-func (m *model) tick(p int) api.Errno {
-	x := &m.procs[p]
+func (m *model) suspect(p, q int) api.Errno {
+	x := m.procs[p]
+	if p == q {
+		return api.ErrSelf
+	}
 	if !x.up {
 		return api.ErrDown
 	}
-	held := slices.Clone(x.held)
-	sort.Slice(held, func(i, j int) bool { return held[i].Sender*100+held[i].Seq < held[j].Sender*100+held[j].Seq })
-	for q := range m.n {
-		if q == p {
+	if x.out {
+		return api.ErrOut
+	}
+	m.suspects(p, []int{q})
+	return api.OK
+}
+
+func (m *model) suspects(p int, l []int) {
+	x := m.procs[p]
+	for _, q := range l {
+		if q != p && slices.Contains(x.members, q) && !slices.Contains(x.suspects, q) {
+			x.suspects = append(x.suspects, q)
+		}
+	}
+	sort.Ints(x.suspects)
+}
+
+func (m *model) tick(p int) api.Errno {
+	x := m.procs[p]
+	if !x.up {
+		return api.ErrDown
+	}
+	if x.out {
+		return api.ErrOut
+	}
+	trusted := without(x.members, x.suspects)
+	upToIt := len(x.suspects) > 0 && trusted[0] == p
+	if upToIt && (x.ballot == 0 || !slices.Equal(x.suspects, x.leftOut)) && x.promised < 1<<31-8 {
+		m.begin(p)
+	} else if x.ballot != 0 {
+		m.again(p)
+	}
+	for _, q := range without(x.members, []int{p}) {
+		m.send(api.Frame{Kind: api.FGossip, From: p, To: q, View: x.view, Ballot: x.promised, Row: x.rows[p]})
+		if x.blocked {
 			continue
 		}
-		m.send(api.Frame{Kind: api.FGossip, From: p, To: q, Ballot: x.promised, Row: x.rows[p]})
-		for _, h := range held {
+		for _, h := range m.told(p, nil) {
 			if x.rows[q][h.Sender] < h.Seq {
-				m.send(data(p, q, x.rows[p], h))
+				m.send(m.data(p, q, h))
 			}
 		}
 	}
 	return api.OK
 }
 
+func (m *model) begin(p int) {
+	x := m.procs[p]
+	x.ballot = x.promised - x.promised%8 + 8 + p
+	x.promised, x.blocked, x.gathers = x.ballot, true, true
+	x.leftOut = slices.Clone(x.suspects)
+	x.asked = without(x.members, x.suspects)
+	x.yes = nil
+	x.answers = []modelAnswer{{p, slices.Clone(x.rows[p]), x.vote}}
+	m.again(p)
+	m.gathered(p)
+}
+
+func (m *model) again(p int) {
+	x := m.procs[p]
+	had := x.yes
+	if x.gathers {
+		had = nil
+		for _, a := range x.answers {
+			had = append(had, a.from)
+		}
+	}
+	for _, q := range without(x.asked, had) {
+		f := api.Frame{Kind: api.FFlush, From: p, To: q, View: x.view, Ballot: x.ballot, Members: number(x.leftOut)}
+		if !x.gathers {
+			f.Kind, f.Members, f.Cut, f.Msgs = api.FAccept, x.vote.members, x.vote.cut, m.told(p, x.vote.cut)
+		}
+		m.send(f)
+	}
+}
+
+func (m *model) gathered(p int) {
+	x := m.procs[p]
+	if len(x.answers) < len(x.asked) || 2*len(x.answers) <= len(x.members) {
+		return
+	}
+	v := modelVote{0, number(x.asked), make([]int, m.n)}
+	for _, a := range x.answers {
+		for q := range m.n {
+			v.cut[q] = max(v.cut[q], a.row[q])
+		}
+	}
+	for i := len(x.answers) - 1; i >= 0; i-- {
+		if o := x.answers[i].vote; o.ballot != 0 && o.ballot >= v.ballot {
+			v = o
+		}
+	}
+	v.ballot = x.ballot
+	x.vote, x.gathers, x.yes = v, false, []int{p}
+	m.again(p)
+	m.accepted(p)
+}
+
+func (m *model) accepted(p int) {
+	x := m.procs[p]
+	if 2*len(x.yes) <= len(x.members) {
+		return
+	}
+	for _, q := range without(x.members, []int{p}) {
+		m.send(api.Frame{Kind: api.FInstall, From: p, To: q, View: x.view, Members: x.vote.members, Cut: x.vote.cut, Msgs: m.told(p, x.vote.cut)})
+	}
+	m.install(p, x.vote.members, x.vote.cut)
+}
+
+func (m *model) install(p, members int, cut []int) {
+	x := m.procs[p]
+	for m.deliverOne(p, cut) {
+		m.clean(p)
+	}
+	x.past = append(x.past, api.Frame{Kind: api.FInstall, From: p, View: x.view, Members: members, Cut: cut, Msgs: m.told(p, cut)})
+	if !slices.Contains(listed(members), p) {
+		x.out = true
+		x.events = append(x.events, api.Event{Kind: api.EExclude, View: x.view})
+		return
+	}
+	y := newModel(m.n, 1, 1).procs[0]
+	y.view, y.members, y.past = x.view+1, listed(members), x.past
+	y.suspects = without(x.suspects, without(x.suspects, y.members))
+	y.events = append(x.events, api.Event{Kind: api.EInstall, View: y.view, Members: members})
+	m.procs[p] = y
+}
+
+// fit tells whether a frame is fit for p (P7).
 func (m *model) fit(p int, f api.Frame) bool {
-	if f.To != p || f.From == p || f.From >= m.n || f.Members >= 1<<m.n || f.View != 0 || len(f.Row) != m.n {
+	if f.To != p || f.From == p || f.From >= m.n || f.Members >= 1<<m.n {
 		return false
 	}
-	if len(f.Cut) != 0 && len(f.Cut) != m.n {
-		return false
-	}
-	for _, x := range f.Msgs {
-		if x.Sender >= m.n || len(x.Time) != m.n || x.Time[x.Sender] != x.Seq {
+	for _, l := range [][]int{f.Row, f.Cut} {
+		if len(l) != 0 && len(l) != m.n {
 			return false
 		}
 	}
-	return f.Kind == api.FGossip || len(f.Msgs) == 1
+	for _, h := range f.Msgs {
+		if h.Sender >= m.n || len(h.Time) != m.n || h.Time[h.Sender] != h.Seq {
+			return false
+		}
+	}
+	k := f.Kind
+	if k == api.FData && len(f.Msgs) != 1 || (k == api.FData || k == api.FGossip || k == api.FState) && len(f.Row) == 0 {
+		return false
+	}
+	if (k == api.FState && f.Voted != 0 || k == api.FAccept || k == api.FInstall) && len(f.Cut) == 0 {
+		return false
+	}
+	return f.Ballot != 0 || k == api.FData || k == api.FGossip || k == api.FInstall
 }
 
 func (m *model) arrive(p int, s string) {
-	x := &m.procs[p]
+	x := m.procs[p]
 	f, e := wire.Decode(s)
-	if !x.up || e != api.OK || !m.fit(p, f) {
-		return
-	}
-	for i, r := range f.Row {
-		if x.rows[f.From][i] < r {
-			x.rows[f.From][i] = r
+	switch {
+	case !x.up || x.out || e != api.OK || !m.fit(p, f) || f.View > x.view:
+	case f.View < x.view:
+		if f.Kind != api.FInstall {
+			old := x.past[f.View]
+			old.To = f.From
+			m.send(old)
 		}
+	case slices.Contains(x.members, f.From):
+		m.handle(p, f)
 	}
-	m.clean(p)
-	if f.Kind == api.FGossip {
+}
+
+func (m *model) handle(p int, f api.Frame) {
+	x := m.procs[p]
+	switch f.Kind {
+	case api.FGossip:
+		m.learn(p, f.From, f.Row)
 		if f.Ballot > x.promised {
-			x.promised = f.Ballot
+			x.promised, x.ballot = f.Ballot, 0
 		}
+	case api.FData:
+		m.learn(p, f.From, f.Row)
+		m.hold(p, f.Msgs)
+		for !x.blocked && m.deliverOne(p, []int{20, 20, 20, 20, 20, 20}) {
+			m.clean(p)
+		}
+	case api.FInstall:
+		m.hold(p, f.Msgs)
+		m.install(p, f.Members, f.Cut)
+	case api.FFlush, api.FAccept:
+		m.obey(p, f)
+	default:
+		m.lead(p, f)
+	}
+}
+
+// obey is what a process does that another one leads.
+func (m *model) obey(p int, f api.Frame) {
+	x := m.procs[p]
+	if f.Ballot < x.promised {
 		return
 	}
-	held := false
-	for _, h := range x.held {
-		held = held || h.Sender == f.Msgs[0].Sender && h.Seq == f.Msgs[0].Seq
+	if f.Ballot != x.ballot {
+		x.ballot = 0
 	}
-	if !held {
-		x.held = append(x.held, f.Msgs[0])
+	x.promised, x.blocked = f.Ballot, true
+	to := api.Frame{From: p, To: f.From, View: x.view, Ballot: f.Ballot}
+	if f.Kind == api.FFlush {
+		m.suspects(p, listed(f.Members))
+		to.Kind, to.Voted, to.Members, to.Cut = api.FState, x.vote.ballot, x.vote.members, x.vote.cut
+		to.Row, to.Msgs = x.rows[p], m.told(p, nil)
+	} else {
+		x.vote = modelVote{f.Ballot, f.Members, f.Cut}
+		m.hold(p, f.Msgs)
+		to.Kind = api.FAccepted
 	}
-	for m.deliverOne(p) {
+	m.send(to)
+}
+
+// lead is what a process does about answers in a ballot that it leads.
+func (m *model) lead(p int, f api.Frame) {
+	x := m.procs[p]
+	if f.Ballot != x.ballot || x.gathers != (f.Kind == api.FState) || !slices.Contains(x.asked, f.From) {
+		return
+	}
+	if f.Kind == api.FAccepted {
+		if !slices.Contains(x.yes, f.From) {
+			x.yes = append(x.yes, f.From)
+		}
+		m.accepted(p)
+		return
+	}
+	for _, a := range x.answers {
+		if a.from == f.From {
+			return
+		}
+	}
+	m.learn(p, f.From, f.Row)
+	m.hold(p, f.Msgs)
+	x.answers = append(x.answers, modelAnswer{f.From, f.Row, modelVote{f.Voted, f.Members, f.Cut}})
+	m.gathered(p)
+}
+
+func (m *model) learn(p, q int, row []int) {
+	for i, r := range row {
+		m.procs[p].rows[q][i] = max(m.procs[p].rows[q][i], r)
 	}
 	m.clean(p)
 }
 
-func (m *model) deliverOne(p int) bool {
-	x := &m.procs[p]
+func (m *model) hold(p int, l []api.Msg) {
+	x := m.procs[p]
+	for _, c := range l {
+		held := slices.ContainsFunc(x.held, func(h api.Msg) bool { return h.Sender == c.Sender && h.Seq == c.Seq })
+		if !held && !m.stable(p, c) && slices.Contains(x.members, c.Sender) {
+			x.held = append(x.held, c)
+		}
+	}
+}
+
+func (m *model) deliverOne(p int, cut []int) bool {
+	x := m.procs[p]
 	best := -1
 	for i, h := range x.held {
-		can := h.Seq == x.rows[p][h.Sender]+1
+		can := h.Seq == x.rows[p][h.Sender]+1 && h.Seq <= cut[h.Sender]
 		for q := range m.n {
 			can = can && (q == h.Sender || h.Time[q] <= x.rows[p][q])
 		}
@@ -185,7 +451,7 @@ func (m *model) deliverOne(p int) bool {
 	}
 	h := x.held[best]
 	x.rows[p][h.Sender]++
-	x.events = append(x.events, api.Event{Kind: api.EDeliver, From: h.Sender, Seq: h.Seq, Text: h.Text})
+	x.events = append(x.events, api.Event{Kind: api.EDeliver, View: x.view, From: h.Sender, Seq: h.Seq, Text: h.Text})
 	return true
 }
 
@@ -208,95 +474,9 @@ func wantModel(t *testing.T, g *chorus.Group, m *model) {
 	}
 	for p, x := range m.procs {
 		is := state(t, g, p)
-		if is.Up != x.up || is.Held != len(x.held) || !slices.Equal(is.Row, x.rows[p]) || is.Members != 1<<m.n-1 || is.View != 0 {
+		if is.Up != x.up || is.Out != x.out || is.Blocked != x.blocked || is.View != x.view || is.Members != number(x.members) || is.Suspects != number(x.suspects) || is.Held != len(x.held) || !slices.Equal(is.Row, x.rows[p]) {
 			t.Fatalf("P8: process %d is at %+v, want %+v", p, is, x)
 		}
 		wantEvents(t, g, p, x.events...)
-	}
-}
-
-// spoil changes a frame here and there, without changing its length or making a kind of it that this model does not know.
-func spoil(r *rand.Rand, n int, f *api.Frame) {
-	entry := func(l []int) {
-		if len(l) > 0 {
-			l[r.Intn(len(l))] = r.Intn(5)
-		}
-	}
-	switch r.Intn(9) {
-	case 0:
-		f.From = r.Intn(6)
-	case 1:
-		f.View = r.Intn(2)
-	case 2:
-		f.Ballot = r.Intn(30)
-	case 3:
-		f.Members = r.Intn(64)
-	case 4:
-		f.Kind = 1 + r.Intn(2)
-	case 5, 6:
-		entry(f.Row)
-	case 7, 8:
-		for i := range f.Msgs {
-			x := &f.Msgs[i]
-			entry(x.Time)
-			x.Sender = r.Intn(n)
-			x.Seq = max(1, x.Time[x.Sender])
-			x.Time[x.Sender] = x.Seq
-		}
-	}
-}
-
-func TestDrawnStepsAgainstTheModel(t *testing.T) {
-	r := rand.New(rand.NewSource(3))
-	for run := range 150 {
-		n, window, limit := 1+r.Intn(6), 1+r.Intn(8), []int{3, 30, 400}[r.Intn(3)]
-		g, m := group(t, n, window, limit), newModel(n, window, limit)
-		for range 150 {
-			step(t, r, g, m, run%2 == 1)
-			wantModel(t, g, m)
-		}
-	}
-}
-
-// step lets one drawn thing happen to the group and to the model.
-func step(t *testing.T, r *rand.Rand, g *chorus.Group, m *model, forging bool) {
-	t.Helper()
-	p := r.Intn(m.n)
-	switch c := r.Intn(40); {
-	case c < 9:
-		text := string(make([]byte, r.Intn(18)))
-		wantErr(t, "P9: Cast", g.Cast(p, text), m.cast(p, text))
-	case c < 14:
-		wantErr(t, "P11: Tick", g.Tick(p), m.tick(p))
-	case c == 14 && r.Intn(4) == 0:
-		want := api.OK
-		if !m.procs[p].up {
-			want = api.ErrDown
-		}
-		wantErr(t, "P8: Crash", g.Crash(p), want)
-		m.procs[p].up = false
-	case len(m.frames) == 0:
-		wantErr(t, "P7: Deliver", g.Deliver(0), api.ErrNone)
-	case c == 15:
-		k := r.Intn(len(m.frames))
-		m.take(k)
-		wantErr(t, "P7: Drop", g.Drop(k), api.OK)
-	case c == 16:
-		k := r.Intn(len(m.frames))
-		if len(m.frames) < m.limit {
-			m.frames = append(m.frames, m.frames[k])
-		}
-		wantErr(t, "P7: Copy", g.Copy(k), api.OK)
-	case c < 22 && forging:
-		k := r.Intn(len(m.frames))
-		f := frameOf(t, g, k)
-		spoil(r, m.n, &f)
-		forge(t, g, k, f)
-		m.frames[k].s = encode(t, f)
-	default:
-		k := r.Intn(len(m.frames))
-		f := m.take(k)
-		m.arrive(f.to, f.s)
-		wantErr(t, "P7: Deliver", g.Deliver(k), api.OK)
 	}
 }

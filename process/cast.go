@@ -60,8 +60,13 @@ func (p *Process) sendData(q int, m api.Msg) {
 
 // deliverAll delivers what can be delivered, until nothing can (P10).
 func (p *Process) deliverAll() {
+	p.deliverWithin(slices.Repeat([]int{api.MaxSeq}, p.procs))
+}
+
+// deliverWithin delivers what can be delivered of the messages that the cut leaves in (P14).
+func (p *Process) deliverWithin(cut []int) {
 	for {
-		m, ok := p.deliverable()
+		m, ok := p.deliverable(cut)
 		if !ok {
 			return
 		}
@@ -71,9 +76,9 @@ func (p *Process) deliverAll() {
 }
 
 // deliverable is the held message of the lowest sender that can be delivered now; of one sender it can only be the next.
-func (p *Process) deliverable() (api.Msg, bool) {
+func (p *Process) deliverable(cut []int) (api.Msg, bool) {
 	for sender, n := range p.row() {
-		if m, ok := p.held[key{sender, n + 1}]; ok && p.hasSeenAhead(m) {
+		if m, ok := p.held[key{sender, n + 1}]; ok && within(cut, m) && p.hasSeenAhead(m) {
 			return m, true
 		}
 	}

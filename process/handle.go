@@ -34,8 +34,7 @@ func (p *Process) handleOld(f api.Frame) {
 	if f.Kind == api.FInstall {
 		return
 	}
-	end := p.left[f.View]
-	p.send(api.Frame{Kind: api.FInstall, To: f.From, View: f.View, Members: end.members, Cut: end.cut, Msgs: end.msgs})
+	p.sendInstall(f.From, f.View, p.left[f.View])
 }
 
 // handleCurrent goes by the kind of a frame of the same view, from a member.
@@ -45,6 +44,16 @@ func (p *Process) handleCurrent(f api.Frame) {
 		p.takeData(f)
 	case api.FGossip:
 		p.takeGossip(f)
+	case api.FFlush:
+		p.takeFlush(f)
+	case api.FState:
+		p.takeState(f)
+	case api.FAccept:
+		p.takeAccept(f)
+	case api.FAccepted:
+		p.takeAccepted(f)
+	case api.FInstall:
+		p.takeInstall(f)
 	}
 }
 
@@ -58,5 +67,7 @@ func (p *Process) takeData(f api.Frame) {
 
 func (p *Process) takeGossip(f api.Frame) {
 	p.learn(f.From, f.Row)
-	p.promised = max(p.promised, f.Ballot)
+	if f.Ballot > p.promised {
+		p.promise(f.Ballot)
+	}
 }

@@ -52,6 +52,13 @@ func (p *Process) hold(m api.Msg) {
 	p.held[k] = m
 }
 
+// holdAll holds messages that came in one frame.
+func (p *Process) holdAll(l []api.Msg) {
+	for _, m := range l {
+		p.hold(m)
+	}
+}
+
 // heldInOrder is what is held, by senders and then by numbers.
 func (p *Process) heldInOrder() []api.Msg {
 	keys := make([]key, 0, len(p.held))
@@ -64,6 +71,14 @@ func (p *Process) heldInOrder() []api.Msg {
 		l[i] = p.held[k]
 	}
 	return l
+}
+
+// within tells whether a cut leaves a message in.
+func within(cut []int, m api.Msg) bool { return m.Seq <= cut[m.Sender] }
+
+// heldWithin is what is held and the cut leaves in, in order.
+func (p *Process) heldWithin(cut []int) []api.Msg {
+	return slices.DeleteFunc(p.heldInOrder(), func(m api.Msg) bool { return !within(cut, m) })
 }
 
 // heldOfItself counts the messages that the process holds of its own.

@@ -15,6 +15,9 @@ type Process struct {
 	crashed, out, blocked   bool
 	view, members, suspects int
 	promised                int
+	vote                    vote
+	// lead is the ballot that this process leads, if it leads one.
+	lead *ballot
 	// known has of each process the row that this one knows; its own row stands among them.
 	known [][]int
 	held  map[key]api.Msg
@@ -22,13 +25,6 @@ type Process struct {
 	left   []leaving
 	events []api.Event
 	sent   []network.Parcel
-}
-
-// leaving is what was agreed on about the end of a view, for those that ask later.
-type leaving struct {
-	members int
-	cut     []int
-	msgs    []api.Msg
 }
 
 // New makes a process of a group of that many, in view 0.
@@ -84,10 +80,13 @@ func (p *Process) able() api.Errno {
 }
 
 // others are the other members of the view, by rising numbers.
-func (p *Process) others() []int {
+func (p *Process) others() []int { return p.list(p.members &^ (1 << p.number)) }
+
+// list is a set, by rising numbers.
+func (p *Process) list(set int) []int {
 	var l []int
 	for q := range p.procs {
-		if q != p.number && has(p.members, q) {
+		if has(set, q) {
 			l = append(l, q)
 		}
 	}

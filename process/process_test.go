@@ -6,37 +6,7 @@ import (
 	"testing"
 
 	"chorus/api"
-	"chorus/network"
-	"chorus/wire"
 )
-
-func encode(t *testing.T, f api.Frame) string {
-	t.Helper()
-	s, e := wire.Encode(f)
-	if e != api.OK {
-		t.Fatalf("P4: Encode(%+v): error %d", f, e)
-	}
-	return s
-}
-
-// wantSent: the process has sent just these frames since it was last asked.
-func wantSent(t *testing.T, what string, p *Process, want ...api.Frame) {
-	t.Helper()
-	var l []network.Parcel
-	for _, f := range want {
-		f.From = p.number
-		l = append(l, network.Parcel{To: f.To, Bytes: encode(t, f)})
-	}
-	if is := p.Sent(); !reflect.DeepEqual(is, l) {
-		t.Errorf("%s: sent %+v, want %+v", what, is, l)
-	}
-}
-
-func data(from, to int, m api.Msg) api.Frame {
-	row := make([]int, len(m.Time))
-	row[m.Sender] = m.Seq
-	return api.Frame{Kind: api.FData, From: from, To: to, Row: row, Msgs: []api.Msg{m}}
-}
 
 func TestBlockedHoldsAndDeliversNothing(t *testing.T) {
 	p := New(1, 3, 4)
@@ -127,20 +97,14 @@ func inView2() *Process {
 }
 
 func TestViewsBelowAreAnswered(t *testing.T) {
-	list := []int{1, 1, 1, 1}
 	for _, from := range []int{0, 2, 3} {
 		for view := range 2 {
-			for _, f := range []api.Frame{
-				{Kind: api.FData, Row: list, Msgs: []api.Msg{{Sender: 3, Seq: 1, Time: list}}},
-				{Kind: api.FGossip, Row: list, Ballot: 9},
-				{Kind: api.FFlush, Ballot: 9},
-				{Kind: api.FState, Ballot: 9, Row: list},
-				{Kind: api.FAccept, Ballot: 9, Cut: list},
-				{Kind: api.FAccepted, Ballot: 9},
-			} {
+			for _, f := range ofEachKind(from, view) {
+				if f.Kind == api.FInstall {
+					continue
+				}
 				p := inView2()
-				f.From, f.To, f.View = from, 1, view
-				p.Arrive(encode(t, f))
+				arrive(t, p, f)
 				end := p.left[view]
 				wantSent(t, "P10: a view below", p, api.Frame{Kind: api.FInstall, To: from, View: view, Members: end.members, Cut: end.cut, Msgs: end.msgs})
 				if !reflect.DeepEqual(p, inView2()) {
@@ -153,47 +117,43 @@ func TestViewsBelowAreAnswered(t *testing.T) {
 
 func TestInstallOfAViewBelowIsIgnored(t *testing.T) {
 	for view := range 2 {
-		p := inView2()
-		p.Arrive(encode(t, api.Frame{Kind: api.FInstall, From: 0, To: 1, View: view, Members: 3, Cut: []int{1, 1, 1, 1}}))
-		if !reflect.DeepEqual(p, inView2()) {
-			t.Errorf("P10: by FInstall of view %d the process has become %+v", view, p)
-		}
+		wantIgnored(t, "P10: FInstall of a view below", inView2, api.Frame{Kind: api.FInstall, From: 0, View: view, Members: 3, Cut: []int{1, 1, 1, 1}})
 	}
 }
 
-func TestAllOfAViewAboveIsIgnored(t *testing.T) {
+// ofEachKind is a frame of each kind, which the process of inView2 would heed if it came from a member of its view.
+func ofEachKind(from, view int) []api.Frame {
 	list := []int{1, 1, 1, 1}
-	for _, f := range []api.Frame{
+	l := []api.Frame{
 		{Kind: api.FData, Row: list, Msgs: []api.Msg{{Sender: 3, Seq: 1, Time: list}}},
 		{Kind: api.FGossip, Row: list, Ballot: 9},
 		{Kind: api.FFlush, Ballot: 9},
 		{Kind: api.FState, Ballot: 9, Row: list},
 		{Kind: api.FAccept, Ballot: 9, Cut: list},
 		{Kind: api.FAccepted, Ballot: 9},
-		{Kind: api.FInstall, Cut: list},
-	} {
-		p := inView2()
-		f.To, f.View = 1, 3
-		p.Arrive(encode(t, f))
-		if !reflect.DeepEqual(p, inView2()) {
-			t.Errorf("P10: by kind %d of a view above the process has become %+v", f.Kind, p)
-		}
+		{Kind: api.FInstall, Members: 7, Cut: list},
+	}
+	for i := range l {
+		l[i].From, l[i].View = from, view
+	}
+	return l
+}
+
+func TestAllOfAViewAboveIsIgnored(t *testing.T) {
+	for _, view := range []int{3, 4, api.MaxBallot - 1} {
+		wantIgnored(t, "P10: a view above", inView2, ofEachKind(0, view)...)
 	}
 }
 
 func TestWhoIsNoMemberIsIgnored(t *testing.T) {
-	list := []int{1, 0, 1, 0}
-	for _, f := range []api.Frame{
-		{Kind: api.FData, Row: list, Msgs: []api.Msg{{Sender: 0, Seq: 1, Time: []int{1, 0, 0, 0}}}},
-		{Kind: api.FGossip, Row: list, Ballot: 9},
-	} {
+	wantIgnored(t, "P10: from no member", inView2, ofEachKind(2, 2)...)
+	// Nor does it count in a ballot that is led.
+	wantIgnored(t, "P13: from no member", func() *Process {
 		p := inView2()
-		f.From, f.To, f.View = 2, 1, 2
-		p.Arrive(encode(t, f))
-		if !reflect.DeepEqual(p, inView2()) {
-			t.Errorf("P10: by kind %d of no member the process has become %+v", f.Kind, p)
-		}
-	}
+		suspect(t, p, 0)
+		tick(t, p)
+		return p
+	}, ofEachKind(2, 2)...)
 }
 
 func TestMessagesOfNoMemberAreNotHeld(t *testing.T) {
@@ -211,9 +171,7 @@ func TestMessagesOfNoMemberAreNotHeld(t *testing.T) {
 
 func TestOnlyMembersCount(t *testing.T) {
 	p := inView2()
-	if e := p.Cast("x"); e != api.OK {
-		t.Fatalf("P9: Cast = %d", e)
-	}
+	cast(t, p, "x")
 	m := api.Msg{Sender: 1, Seq: 1, Time: []int{0, 1, 0, 0}, Text: "x"}
 	row := []int{0, 1, 0, 0}
 	wantSent(t, "P9: to the members", p,

@@ -7,6 +7,7 @@ func (p *Process) Tick() api.Errno {
 	if e := p.able(); e != api.OK {
 		return e
 	}
+	p.changeView()
 	for _, q := range p.others() {
 		p.gossip(q)
 		if !p.blocked {
