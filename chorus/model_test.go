@@ -10,7 +10,7 @@ import (
 	"chorus/wire"
 )
 
-// model is a second reading of P7 to P14, written for plainness: sets are lists, and every list is searched from its head.
+// model is a second reading of P7 to P15, written for plainness: sets are lists, and every list is searched from its head.
 type model struct {
 	n, window, limit int
 	frames           []modelFrame
@@ -459,6 +459,20 @@ func (m *model) take(k int) modelFrame {
 	f := m.frames[k]
 	m.frames = append(append([]modelFrame{}, m.frames[:k]...), m.frames[k+1:]...)
 	return f
+}
+
+func (m *model) round() int {
+	taken := m.frames
+	m.frames = nil
+	for p := range m.n {
+		for _, f := range taken {
+			if f.to == p {
+				m.arrive(p, f.s)
+			}
+		}
+		m.tick(p)
+	}
+	return len(taken)
 }
 
 func wantModel(t *testing.T, g *chorus.Group, m *model) {

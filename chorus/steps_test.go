@@ -9,6 +9,7 @@ import (
 )
 
 func TestDrawnStepsAgainstTheModel(t *testing.T) {
+	t.Parallel()
 	r := rand.New(rand.NewSource(3))
 	changed, out := 0, 0
 	for run := range 400 {
@@ -50,6 +51,8 @@ func step(t *testing.T, r *rand.Rand, g *chorus.Group, m *model, forging bool) {
 	case c == 16:
 		q := suspicious(r, m)
 		wantErr(t, "P12: Suspect", g.Suspect(p, q), m.suspect(p, q))
+	case c == 17 && r.Intn(2) == 0:
+		round(t, g, m.round())
 	default:
 		befallBoth(t, r, g, m, forging)
 	}

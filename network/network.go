@@ -52,6 +52,13 @@ func (n *Network) Take(k int) (Parcel, api.Errno) {
 	return c, api.OK
 }
 
+// TakeAll takes all parcels out of flight.
+func (n *Network) TakeAll() []Parcel {
+	l := n.parcels
+	n.parcels = nil
+	return l
+}
+
 // Copy sends the k-th parcel once more.
 func (n *Network) Copy(k int) api.Errno {
 	if !n.has(k) {

@@ -52,6 +52,28 @@ func TestTake(t *testing.T) {
 	want(t, n, "a", "c", "d")
 }
 
+func TestTakeAll(t *testing.T) {
+	n := filled(2, "a", "b", "lost")
+	n.Corrupt(1, 0, 3)
+	if l := n.TakeAll(); !slices.Equal(l, []network.Parcel{{To: 0, Bytes: "a"}, {To: 1, Bytes: "a"}}) {
+		t.Errorf("P15: TakeAll = %+v", l)
+	}
+	want(t, n)
+	if l := n.TakeAll(); len(l) != 0 {
+		t.Errorf("P15: TakeAll of nothing = %+v", l)
+	}
+	// There is room again, and what was taken out is not written into.
+	l := filled(2, "a", "b")
+	was := l.TakeAll()
+	for _, s := range []string{"c", "d", "lost"} {
+		l.Send(network.Parcel{Bytes: s})
+	}
+	want(t, l, "c", "d")
+	if was[0].Bytes != "a" || was[1].Bytes != "b" {
+		t.Errorf("P15: what was taken out has become %+v", was)
+	}
+}
+
 func TestCopy(t *testing.T) {
 	n := filled(4, "a", "b", "c")
 	if e := n.Copy(1); e != api.OK {
